@@ -1,0 +1,89 @@
+"""The examples of the document, section by section, as written there."""
+
+EXAMPLES = (
+    ("errors", r"""
+"""),
+    ("checks", r"""
+>>> [is_bit(1), is_bit(True), is_turn(7), is_turn(8), is_amount([1, 0, -2, 5]), is_amount((1, 0, 0)), is_lot([4, 0]), is_lot([1, 1])]
+[True, False, True, False, True, False, True, False]
+>>> one, none = (1, 0, 0, 0), (0, 0, 0, 0)
+>>> [is_spread([one, none]), is_spread([none, none]), is_spread([one]), is_spread([one, one, one]), is_spread(one)]
+[True, False, True, False, False]
+"""),
+    ("papers", r"""
+>>> note = Paper("note", [1, (2, [3])])
+>>> [note.parts, bool(note), bool(Denial("no")), note == Denial("note", [1, (2, [3])]), fixed([[], {"a": [1]}])]
+[((1, (2, (3,))),), True, False, False, ((), {'a': [1]})]
+"""),
+    ("amounts", r"""
+>>> [added((1, 2, 0, 0), (0, 1, 0, -1)), multiplied((0, 1, 0, 0), (0, 0, 0, 1)), multiplied((1, 1, 0, 0), (1, 0, 0, -1)), turned((1, 2, 3, 4), 1), turned((1, 0, 0, 0), 4)]
+[(1, 3, 0, -1), (-1, 0, 0, 0), (2, 1, 0, -1), (-4, 1, 2, 3), (-1, 0, 0, 0)]
+>>> [length_of((1, 1, 0, 0)), length_of((0, 1, 0, -1)), length_of((0, 0, 0, 0)), mirrored((1, 2, 3, 4))]
+[(2, 1), (2, 0), (0, 0), (1, -4, -3, -2)]
+>>> turned((1, 0, 0, 0), 8)
+raises BadNumber('turn')
+"""),
+    ("spreads", r"""
+>>> two = even(2)
+>>> [two, of_bits([0, 1]), length(two), places_in(two), tied(two, 0, 1)]
+[((1, 0, 0, 0), (1, 0, 0, 0), (1, 0, 0, 0), (1, 0, 0, 0)), ((0, 0, 0, 0), (0, 0, 0, 0), (1, 0, 0, 0), (0, 0, 0, 0)), (4, 0), 2, ((1, 0, 0, 0), (1, 0, 0, 0), (1, 0, 0, 0), (-1, 0, 0, 0))]
+>>> [mixed(even(1), 0), mixed(of_bits([1]), 0), exchanged(((1, 0, 0, 0), (0, 1, 0, 0)), 0), turned_at(two, 1, 3)[2], plain_form(((0, 0, 0, 0), (0, 2, 0, 0)))]
+[((2, 0, 0, 0), (0, 0, 0, 0)), ((1, 0, 0, 0), (-1, 0, 0, 0)), ((0, 1, 0, 0), (1, 0, 0, 0)), (0, 0, 0, 1), ((0, 0, 0, 0), (1, 0, 0, 0))]
+>>> knot = tied(two, 0, 1)
+>>> [looked(knot, 0, 0, 0), looked(knot, 0, 0, 1), looked(even(1), 0, 0, 1), shares(knot, 0, 2), is_even(knot, 0, 2), is_even(even(1), 0, 0)]
+[((2, 0, 0, 0), (0, 0, 0, 0)), ((0, 0, 0, 0), (2, 0, 0, 0)), None, ((4, 0), (4, 0)), True, False]
+>>> [plain_form(((0, 1, 0, 0), (1, 0, 0, 0))), plain_form(((1, 1, 0, 0), (2, 0, 0, 0))), are_alike(even(1), ((0, 3, 0, 0), [0, 3, 0, 0])), placed(((1, 0, 0, 0), (2, 0, 0, 0), (3, 0, 0, 0), (4, 0, 0, 0)), [1, 0])[1]]
+[((1, 0, 0, 0), (0, 0, 0, -1)), ((1, 0, 0, 0), (1, -1, 1, -1)), True, (3, 0, 0, 0)]
+>>> beside(of_bits([1]), even(1))
+((0, 0, 0, 0), (1, 0, 0, 0), (0, 0, 0, 0), (1, 0, 0, 0))
+>>> looked(two, 2, 0, 0)
+raises BadNumber('place')
+"""),
+    ("programs", r"""
+>>> pair = Program(2, [("mix", 0), ["under", 0, 1], ("turn", 1, 3)])
+>>> [pair.wires, pair.deeds, str(pair), Program.read(str(pair)) == pair]
+[2, (('mix', 0), ('under', 0, 1), ('turn', 1, 3)), 'wires 2\nmix 0\nunder 0 1\nturn 1 3', True]
+>>> three = Program(3, [("both", 0, 1, 2)])
+>>> [basic(pair).deeds, odd_turns(pair), odd_turns(three), len(basic(three).deeds), basic(three).deeds[:5]]
+[(('mix', 0), ('mix', 1), ('sign', 0, 1), ('mix', 1), ('turn', 1, 3)), 1, 7, 27, (('mix', 2), ('turn', 0, 1), ('turn', 1, 1), ('turn', 2, 1), ('mix', 1))]
+>>> [undone(pair).deeds, aside(pair, Program(1, [("not", 0)])).deeds[2:], is_deed(("turn", 0, 8), 1), is_deed(["swap", 1, 0], 2)]
+[(('turn', 1, 5), ('under', 0, 1), ('mix', 0)), (('turn', 1, 3), ('not', 2)), False, True]
+>>> Program(2, [("sign", 1, 1)])
+raises BadProgram('deeds')
+>>> Program.read("wires 2\nmix 0\nunder 1 1")
+raises BadText(2, 2)
+>>> joined(pair, Program(1, []))
+raises Misfit('wires')
+"""),
+    ("meanings", r"""
+>>> meaning(pair, of_bits([0, 0]))
+((1, 0, 0, 0), (0, 0, 0, 0), (0, 0, 0, 0), (0, 0, 0, 1))
+>>> half = Program(1, [("mix", 0), ("turn", 0, 1), ("mix", 0)])
+>>> [meaning(half, of_bits([0])), readings(half, of_bits([0])), readings(pair, of_bits([0, 0]))]
+[((1, 0, 0, 0), (0, -1, 1, -1)), ((0, (1, 0)), (1, (3, -2))), ((0, (1, 0)), (3, (1, 0)))]
+>>> [meaning(three, of_bits([1, 1, 1])) == of_bits([1, 1, 0]), meaning(joined(pair, undone(pair)), even(2)) == even(2)]
+[True, True]
+>>> meaning(pair, of_bits([0]))
+raises Misfit('wires')
+"""),
+    ("nets", r"""
+>>> chain, mid = Net(3, [(0, 1), (2, 1)], [0], [2], [(1, 0), (0, 1)]), Net(2, [(0, 1)], [1], [0], {1: 3})
+>>> [chain.strings, chain.turns, chain.looked, neighbours(chain, 1), oddly_met(chain, [0, 2]), oddly_met(chain, [2, 1])]
+[((0, 1), (1, 2)), ((0, 1), (1, 0)), (0, 1), (0, 2), (), (0, 1, 2)]
+>>> str(chain).split("\n")
+['things 3', 'given 0', 'kept 2', 'string 0 1', 'string 1 2', 'turn 0 1', 'turn 1 0']
+>>> [Net.read(str(mid)) == mid, turn_of(mid, 1), with_turns(mid, [(1, 7)]).turns]
+[True, 3, ((1, 7),)]
+>>> both = joined_nets(chain, mid)
+>>> [both.things, both.strings, both.given, both.kept, both.turns]
+[4, ((0, 1), (1, 2), (2, 3)), (0,), (3,), ((0, 1), (1, 0), (2, 3))]
+>>> [aside_nets(mid, chain).strings, aside_nets(mid, chain).given, aside_nets(mid, chain).kept]
+[((0, 1), (2, 3), (3, 4)), (1, 2), (0, 4)]
+>>> Net(2, [(0, 1), (1, 0)], [], [1], [(0, 0)])
+raises BadNet('strings')
+>>> Net.read("things 2\ngiven\nkept 1\nstring 0 1")
+raises BadText(4, 0)
+>>> joined_nets(chain, aside_nets(mid, mid))
+raises Misfit('wires')
+"""),
+)
