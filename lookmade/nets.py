@@ -101,6 +101,18 @@ def want_thing(value, part, net):
     want_number(value, part, 0, net.things - 1)
 
 
+def want_looked(value, part, net):
+    """Raises BadNumber for what is none of the looked-at things of the net."""
+    want_thing(value, part, net)
+    if value in net.kept:
+        raise BadNumber(part)
+
+
+def is_order(value, net):
+    """Whether it is an order of the net: a list of its looked-at things, each once."""
+    return is_lot(value) and sorted(value) == list(net.looked)
+
+
 def near_things(net):
     """For each thing of the net the list of its neighbours, ascending."""
     found = [[] for _ in range(net.things)]

@@ -86,4 +86,66 @@ raises BadText(4, 0)
 >>> joined_nets(chain, aside_nets(mid, mid))
 raises Misfit('wires')
 """),
+    ("looks", r"""
+>>> zero, lone = [(1, 0, 0, 0), (0, 0, 0, 0)], Net(1, [], [], [], [(0, 0)])
+>>> [amount[0] for amount in begun(chain, zero)]
+[1, 0, 1, 0, 1, 0, -1, 0]
+>>> [bare_end(chain, zero, [0, 1], falls) for falls in ([0, 0], [0, 1])]
+[((1, 0, 0, 0), (0, 0, 0, 0)), ((0, 0, 0, 0), (1, 0, 0, 0))]
+>>> [bare_lengths(chain, zero, (1, 0), (1, 0)), bare_end(chain, zero, (1, 0), (1, 0)) == bare_end(chain, zero, (0, 1), (0, 1))]
+[((4, 0), (4, 0), (4, 0)), True]
+>>> [bare_end(lone, [(1, 0, 0, 0)], [0], [fall]) for fall in (0, 1)] + [bare_lengths(lone, [(1, 0, 0, 0)], [0], [1])]
+[((1, 0, 0, 0),), None, ((2, 0), (0, 0))]
+>>> begun(chain, [(1, 0, 0, 0)])
+raises Misfit('given')
+>>> bare_end(chain, zero, [0], [0])
+raises BadOrder('order')
+"""),
+    ("lots", r"""
+>>> line, three = Net(3, [(0, 1), (1, 2)], [0], [2], {0: 1, 1: 2}), Net(3, [(0, 1), (1, 2), (0, 2)], [], [2], {0: 0, 1: 3})
+>>> lots_of(line) == Lots([[0], [1]], [(0, [1]), (1, [2])]), lots_of(three) == Stuck([0, 1], [(0, [0, 1]), (1, [0, 1])])
+(True, True)
+>>> two = Net(4, [(0, 2), (1, 2), (1, 3)], [], [2, 3], {0: 1, 1: 1})
+>>> [lots_of(two).layers, lots_of(two).lots, has_lots(two), has_lots(three)]
+[((0, 1),), ((0, (2, 3)), (1, (3,))), True, False]
+>>> [fewest(line) == Fewest([[0], [1]], [(0, [0])]), fewest(two) == Fewest([[0, 1]], []), lots_of(Net(2, [(0, 1)], [0, 1], [1], {0: 0})).left]
+[True, True, (0,)]
+>>> bare = Net(2, [(0, 1)], [1], [1, 0], [])
+>>> [lots_of(bare) == Lots([], []), fewest(bare) == Fewest([], []), has_lots(bare)]
+[True, True, True]
+>>> fewest(three)
+raises Misfit('lots')
+"""),
+    ("check_lots", r"""
+>>> apart = Lots([[1], [0]], [(0, [2, 3]), (1, [3])])
+>>> [shows_lots(two, value) for value in (apart, Lots([[0, 1]], [(0, [2]), (1, [3])]), Lots([[0], [1]], [(0, [2]), (1, [3])]), Lots([[1], [0]], [(0, [2]), (1, [3])]), Stuck([0], [(0, [0])]))]
+[True, False, True, False, False]
+>>> [shows_lots(three, Stuck([0, 1], [(0, [0, 1]), (1, [0, 1])])), shows_lots(three, Stuck([0], [(0, [0])])), shows_lots(line, Lots([[0, 1]], [(0, [1]), (1, [2])]))]
+[True, False, False]
+>>> [shows_fewest(line, Fewest([[0], [1]], value)) for value in ([(0, [0])], [(0, [0, 1])], [])]
+[True, False, False]
+"""),
+    ("waits", r"""
+>>> path = Net(3, [(0, 1), (1, 2)], [0], [2], {0: 1, 1: 3})
+>>> steps = Lots([[0], [1]], [(0, [1]), (1, [2])])
+>>> [waits(path, steps, thing) for thing in (0, 1, 2)]
+[((), ()), ((0,), ()), ((1,), (0,))]
+>>> [is_let(path, steps, [0, 1]), is_let(path, steps, [1, 0]), is_let(path, steps, [0]), first_order(path, steps)]
+[True, False, False, (0, 1)]
+>>> [most_live(path, [0, 1]), most_live(path, [1, 0])]
+[2, 3]
+>>> waits(path, Lots([[1], [0]], [(0, [1]), (1, [2])]), 0)
+raises BadLots('paper')
+"""),
+    ("players", r"""
+>>> player = Player(path, steps, [(1, 0, 0, 0), (1, 0, 0, 0)])
+>>> [player.live, player.length, player.ready(), player.look(0, 1), player.live, player.length]
+[(0,), (2, 0), (0,), 1, (1,), (4, 0)]
+>>> [player.asks(1), player.look(1, 0), player.heard, player.live, player.most, player.length]
+[5, 5, ((0, 1), (1, 0)), (2,), 2, (8, 0)]
+>>> [player.end(), player.length]
+[((3, 0, 0, 0), (0, 1, -1, -1)), (8, 0)]
+>>> player.look(0, 0)
+raises Twice(0)
+"""),
 )

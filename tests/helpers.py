@@ -1,6 +1,7 @@
 """What several test files use."""
 
 from lookmade.errors import LookError
+from lookmade.nets import Net
 
 
 def raised(call, *args, **named):
@@ -49,3 +50,61 @@ def as_lists(value):
     if isinstance(value, (list, tuple)):
         return [as_lists(part) for part in value]
     return value
+
+
+def drawn_list(steps, things, chance):
+    """Some of the things, each with a chance of so many in ten, in an order that looks drawn."""
+    left = [thing for thing in things if steps.below(10) < chance]
+    found = []
+    while left:
+        found.append(left.pop(steps.below(len(left))))
+    return found
+
+
+def drawn_net(steps, things, given=3, kept=4, strings=5, turns=range(8)):
+    """A net that looks drawn; given, kept and strings are chances of so many in ten."""
+    ties = drawn_list(steps, [(low, high) for high in range(things) for low in range(high)], strings)
+    given = drawn_list(steps, range(things), given)
+    kept = drawn_list(steps, range(things), kept)
+    ties = [tie if steps.below(2) else tie[::-1] for tie in ties]
+    return Net(things, ties, given, kept, {thing: turns[steps.below(len(turns))] for thing in range(things)
+                                           if thing not in kept})
+
+
+def renumbered(net, names):
+    """The net with names[k] in the place of thing k."""
+    return Net(net.things, [(names[one], names[other]) for one, other in net.strings], [names[thing] for thing in net.given],
+               [names[thing] for thing in net.kept], [(names[thing], turn) for thing, turn in net.turns])
+
+
+def threaded_net(steps, wires, most):
+    """A net of some wires of things one behind another and a few strings more, numbered as if drawn."""
+    things = steps.between(wires, most)
+    strings = [(at, at + wires) for at in range(things - wires)]
+    others = [(low, high) for high in range(things) for low in range(high) if (low, high) not in strings]
+    strings += drawn_list(steps, others, steps.below(3))
+    kept = list(range(things - wires, things))
+    given = drawn_list(steps, range(wires), 5)
+    turns = {thing: steps.below(8) for thing in range(things - wires)}
+    return renumbered(Net(things, strings, given, kept, turns), drawn_list(steps, range(things), 10))
+
+
+def bent(value, numbers):
+    """The value bent at one place each: a part exchanged, put in, left out, doubled, its numbers others, of other kinds."""
+    found = [None, True, "", 7.0, {}, Oddity()]
+    if type(value) is int:
+        return [*found, *numbers, float(value), str(value), -1, -value, (value,), bool(value)]
+    found += [(), (value,), (*value, *value), value[::-1], dict.fromkeys(range(len(value))), 0]
+    for at, part in enumerate(value):
+        found += [(*value[:at], other, *value[at + 1:]) for other in bent(part, numbers)]
+        found += [(*value[:at], *value[at + 1:]), (*value[:at], part, part, *value[at + 1:])]
+        found += [(*value[:at], number, *value[at:]) for number in numbers]
+    for at in range(len(value) - 1):
+        one, other = value[at:at + 2]
+        found.append((*value[:at], other, one, *value[at + 2:]))
+        if isinstance(one, tuple) and isinstance(other, tuple):
+            found.append((*value[:at], tuple(sorted((*one, *other), key=repr)), *value[at + 2:]))
+    for at, part in enumerate(value):
+        if isinstance(part, tuple) and len(part) > 1:
+            found += [(*value[:at], part[:1], part[1:], *value[at + 1:]), (*value[:at], part[1:], part[:1], *value[at + 1:])]
+    return [*found, (*value, ()), ((), *value), (*value, *[(number,) for number in numbers])]

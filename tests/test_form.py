@@ -40,7 +40,22 @@ INTERFACE = {
     "meanings": ["meaning(program, spread)", "readings(program, spread)"],
     "nets": ["Net(things, strings, given, kept, turns)", "neighbours(net, thing)", "oddly_met(net, lot)",
              "turn_of(net, thing)", "with_turns(net, turns)", "joined_nets(one, other)", "aside_nets(one, other)"],
+    "looks": ["begun(net, spread)", "bare_end(net, spread, order, falls)", "bare_lengths(net, spread, order, falls)"],
+    "lots": ["Lots(layers, lots)", "Stuck(left, shows)", "Fewest(layers, shows)", "lots_of(net)", "has_lots(net)",
+             "fewest(net)"],
+    "check_lots": ["shows_lots(net, value)", "shows_fewest(net, value)"],
+    "waits": ["waits(net, paper, thing)", "is_let(net, paper, order)", "first_order(net, paper)", "most_live(net, order)"],
+    "players": ["Player(net, paper, spread)"],
 }
+CLASS_METHODS = {
+    ("players", "Player"): ["ready(self)", "asks(self, thing)", "look(self, thing, fall)", "end(self)"],
+}
+# The methods of strings, lists and dicts that may be called.
+OFTEN = (
+    "append clear copy count endswith extend find get index insert isalnum isalpha isdigit islower isspace isupper items join "
+    "keys ljust lower lstrip partition pop remove replace reverse rfind rjust rpartition rsplit rstrip setdefault split "
+    "splitlines startswith strip update upper values zfill bit_length add discard"
+).split()
 
 
 def files():
@@ -82,6 +97,15 @@ class InterfaceTest(unittest.TestCase):
             made = getattr(importlib.import_module(f"lookmade.{module}"), name)
             self.assertEqual(str(inspect.signature(made.read)), "(text)")
             self.assertIsInstance(vars(made)["read"], (staticmethod, classmethod))
+
+
+    def test_methods_of_classes(self):
+        for (module, name), told in CLASS_METHODS.items():
+            made = getattr(importlib.import_module(f"lookmade.{module}"), name)
+            for one in told:
+                method = one.split("(")[0]
+                self.assertIn(method, vars(made))
+                self.assertEqual(method + str(inspect.signature(vars(made)[method])), one)
 
 
 class FormTest(unittest.TestCase):
@@ -160,6 +184,28 @@ class FormTest(unittest.TestCase):
                 self.assertFalse(bound(function) & (brought | classes | set(dir(builtins))), f"{name}.{function.name}")
                 read = {node.id for node in ast.walk(function) if isinstance(node, ast.Name)}
                 self.assertLessEqual(read - bound(function), known, f"{name}.{function.name}")
+
+    def test_methods_that_are_called(self):
+        own = {node.name for tree in trees().values() for node in functions(tree)}
+        for name, tree in trees().items():
+            for node in ast.walk(tree):
+                if isinstance(node, ast.Call) and isinstance(node.func, ast.Attribute):
+                    self.assertIn(node.func.attr, own | set(OFTEN), name)
+
+    def test_attributes(self):
+        stored = {node.attr for tree in trees().values() for node in ast.walk(tree)
+                  if isinstance(node, ast.Attribute) and isinstance(node.ctx, ast.Store)}
+        taken = {one for value in (str, list, dict, set, int, bytes, tuple) for one in dir(value)}
+        self.assertFalse(stored & taken)
+        for name, tree in trees().items():
+            called = [node.func for node in ast.walk(tree) if isinstance(node, ast.Call)]
+            for node in ast.walk(tree):
+                if isinstance(node, ast.Attribute) and isinstance(node.ctx, ast.Load) and node not in called:
+                    self.assertIn(node.attr, stored | {"__class__", "__name__"}, name)
+            for node in tree.body:
+                if isinstance(node, ast.ClassDef):
+                    told = {one.name for one in node.body if isinstance(one, ast.FunctionDef)}
+                    self.assertFalse(told & stored, f"{name}.{node.name}")
 
     def test_methods(self):
         for name, tree in trees().items():

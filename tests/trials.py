@@ -1,0 +1,176 @@
+"""What the document tells of nets, lots and runs, found the long way: by trial of all, and by counting."""
+
+from itertools import combinations, product
+
+from helpers import Steps, threaded_net
+from lookmade.lots import Lots, has_lots, lots_of
+
+ZERO = (0, 0, 0, 0)
+
+
+def add(one, other):
+    return tuple(a + b for a, b in zip(one, other))
+
+
+def turned(amount, many):
+    for _ in range(many % 8):
+        amount = (-amount[3], *amount[:3])
+    return amount
+
+
+def length(spread):
+    p = sum(a * a + b * b + c * c + d * d for a, b, c, d in spread)
+    return (p, sum(a * b + b * c + c * d - d * a for a, b, c, d in spread))
+
+
+def all_bits(things):
+    """All dicts of bits of the things; the first thing's bit changes fastest."""
+    things = list(things)
+    for bits in product((0, 1), repeat=len(things)):
+        yield dict(zip(things, bits[::-1]))
+
+
+def number(bits, things):
+    return sum(bits[thing] << place for place, thing in enumerate(things))
+
+
+def left_of(net, spread, made, turns, left):
+    """The spread of the things told by left when all made things were tied, and those of turns were looked at.
+
+    turns are pairs (thing, whole turn), the fall being four of it. All is added over the bits of all that is gone.
+    """
+    ties = [string for string in net.strings if set(string) <= set(made)]
+    found = []
+    for bits in all_bits(left):
+        amount = ZERO
+        for gone in all_bits([thing for thing, _ in turns]):
+            whole = {**bits, **gone}
+            told = spread[number(whole, net.given)]
+            turn = sum(turn for thing, turn in turns if whole[thing])
+            turn += sum(4 for one, other in ties if whole[one] and whole[other])
+            amount = add(amount, turned(tuple(told), turn))
+        found.append(amount)
+    return tuple(found)
+
+
+def near(net, thing):
+    return {one + other - thing for one, other in net.strings if thing in (one, other)}
+
+
+def met(net, lot):
+    """The set of what a lot meets oddly, by counting."""
+    return {thing for thing in range(net.things) if len(near(net, thing) & set(lot)) % 2 == 1}
+
+
+def subsets(things):
+    things = sorted(things)
+    return [lot for many in range(len(things) + 1) for lot in combinations(things, many)]
+
+
+def right_lots(net, thing, later):
+    """All right lots of a thing if these looked things, a set, are in later layers."""
+    fine = set(net.kept) | set(later)
+    return [lot for lot in subsets(fine - set(net.given)) if met(net, lot) - fine == {thing}]
+
+
+def are_right(net, layers, lots):
+    """Whether lots, a dict, are right for layers that have each looked thing once, by counting."""
+    for at, layer in enumerate(layers):
+        later = {thing for row in layers[at + 1:] for thing in row}
+        for thing in layer:
+            if tuple(sorted(lots[thing])) not in right_lots(net, thing, later):
+                return False
+    return True
+
+
+def rounds(net):
+    """The layers by trial of all lots, round by round from the end, and what is left."""
+    layers, done, left = [], set(), set(net.looked)
+    while left:
+        layer = [thing for thing in sorted(left) if right_lots_among(net, thing, done, left)]
+        if not layer:
+            break
+        layers.insert(0, tuple(layer))
+        done |= set(layer)
+        left -= set(layer)
+    return tuple(layers), tuple(sorted(left))
+
+
+def right_lots_among(net, thing, done, left):
+    fit = (done | set(net.kept)) - set(net.given)
+    return [lot for lot in subsets(fit) if met(net, lot) & left == {thing}]
+
+
+def all_layers(things):
+    """All rows of layers that have each of the things once, none empty."""
+    things = tuple(things)
+    if not things:
+        return [()]
+    found = []
+    for first in subsets(things):
+        if first:
+            found += [(first, *rest) for rest in all_layers([thing for thing in things if thing not in first])]
+    return found
+
+
+def some_lots(steps, net, layers):
+    """Right lots for the layers that look drawn, as a list of pairs; None if there are none."""
+    found = []
+    for at, layer in enumerate(layers):
+        later = {thing for row in layers[at + 1:] for thing in row}
+        for thing in layer:
+            lots = right_lots(net, thing, later)
+            if not lots:
+                return None
+            found.append((thing, lots[steps.below(len(lots))]))
+    return sorted(found)
+
+
+def is_even_for(net, some, watching):
+    """Whether each of those watching that was not given has an even number of neighbours among some."""
+    return all(len(near(net, thing) & set(some)) % 2 == 0 for thing in watching if thing not in net.given)
+
+
+def waited(net, lots, thing):
+    """The pair of those that exchange a thing and those that sign it; lots are a dict."""
+    exchanging = [one for one in sorted(lots) if thing in lots[one]]
+    return (tuple(exchanging), tuple(one for one in sorted(lots) if one != thing and thing in met(net, lots[one])))
+
+
+def turn_now(net, lots, thing, falls):
+    """The turn now of a looked thing, by the falls, a dict, of those that it waits for."""
+    exchanging, signing = waited(net, lots, thing)
+    turn = dict(net.turns)[thing]
+    if sum(falls[one] for one in exchanging) % 2:
+        turn = 8 - turn
+    if sum(falls[one] for one in signing) % 2:
+        turn += 4
+    return turn % 8
+
+
+def orders(net, lots):
+    """All orders that are let; lots are a dict."""
+    before = {thing: set(sum(waited(net, lots, thing), ())) for thing in net.looked}
+
+    def on(order):
+        if len(order) == len(net.looked):
+            return [order]
+        ready = [thing for thing in net.looked if thing not in order and before[thing] <= set(order)]
+        return [found for thing in ready for found in on((*order, thing))]
+
+    return on(())
+
+
+def drawn_papers(start, many, most=5):
+    """Nets with right Lots that look drawn, of the latest layers and of others."""
+    steps = Steps(start)
+    for at in range(many):
+        net = threaded_net(steps, 1 + at % 3, most)
+        if not has_lots(net):
+            continue
+        yield net, lots_of(net)
+        rows = all_layers(net.looked) if len(net.looked) <= 3 else [[(thing,) for layer in lots_of(net).layers for thing in layer]]
+        layers = rows[steps.below(len(rows))]
+        lots = some_lots(steps, net, layers)
+        if lots is not None:
+            yield net, Lots(layers, lots)
