@@ -137,6 +137,19 @@ raises Misfit('lots')
 >>> waits(path, Lots([[1], [0]], [(0, [1]), (1, [2])]), 0)
 raises BadLots('paper')
 """),
+    ("runs", r"""
+>>> [turn_now(path, steps, 1, [(0, 0)]), turn_now(path, steps, 1, [(0, 1)]), turn_now(path, steps, 0, [])]
+[3, 5, 1]
+>>> plain = Net(3, [(0, 1), (1, 2)], [0], [2], {0: 0, 1: 0})
+>>> [end_of(plain, steps, [(3, 0, 0, 0), (0, 1, 0, 0)], [0, 1], falls) for falls in ([0, 0], [1, 1])]
+[((3, 0, 0, 0), (0, 1, 0, 0)), ((3, 0, 0, 0), (0, 1, 0, 0))]
+>>> [end_of(path, steps, [(1, 0, 0, 0), (0, 0, 0, 0)], (0, 1), (0, 1)), end_of(path, steps, [(1, 0, 0, 0), (1, 0, 0, 0)], (0, 1), (1, 0))]
+[((1, 0, 0, 0), (0, -1, -1, -1)), ((3, 0, 0, 0), (0, 1, -1, -1))]
+>>> turn_now(path, steps, 1, [(1, 0)])
+raises Misfit('falls')
+>>> turn_now(path, steps, 1, {0: 1, 2: 0})
+raises BadFalls('falls')
+"""),
     ("players", r"""
 >>> player = Player(path, steps, [(1, 0, 0, 0), (1, 0, 0, 0)])
 >>> [player.live, player.length, player.ready(), player.look(0, 1), player.live, player.length]
@@ -147,5 +160,39 @@ raises BadLots('paper')
 [((3, 0, 0, 0), (0, 1, -1, -1)), (8, 0)]
 >>> player.look(0, 0)
 raises Twice(0)
+"""),
+    ("made", r"""
+>>> small = Program(2, [("mix", 0), ("turn", 0, 1), ("sign", 0, 1), ("mix", 1)])
+>>> net = net_of(small)
+>>> [net.things, net.strings, net.given, net.kept, net.turns]
+[6, ((0, 2), (1, 2), (1, 3), (2, 4), (4, 5)), (0, 1), (5, 3), ((0, 0), (1, 0), (2, 1), (4, 0))]
+>>> [lots_for(small).layers, lots_for(small).lots]
+[((0,), (1, 2), (4,)), ((0, (2,)), (1, (3,)), (2, (4,)), (4, (5,)))]
+>>> net_of(Program(1, [("turn", 0, 3), ("turn", 0, 5)])) == Net(1, [], [0], [0], [])
+True
+"""),
+    ("walls", r"""
+>>> wall = shape(2, 1)
+>>> [wall.things, wall.strings, wall.given, wall.kept, wall.turns[7]]
+[10, ((0, 2), (1, 3), (2, 4), (3, 5), (4, 5), (4, 6), (5, 7), (6, 8), (7, 9), (8, 9)), (0, 1), (8, 9), (7, 0)]
+>>> [wall_lots(2, 1).layers, wall_lots(2, 1).lots[6], paired(4, 0), paired(4, 1), paired(2, 1), len(shape(3, 4).strings)]
+[((0, 1), (2, 3), (4, 5), (6, 7)), (6, (8,)), ((0, 1), (2, 3)), ((1, 2),), (), 56]
+>>> shape(4, 8)
+raises TooMany('things', 120)
+"""),
+    ("bricks", r"""
+>>> pair = Program(2, [("sign", 0, 1)])
+>>> [bricks_of(pair), columns_of(pair)]
+[(('mix', 1), ('under', 0, 1), ('mix', 1)), (0, 2, 3)]
+>>> [words_of(pair, 4)[0], words_of(pair, 4)[1], words_of(pair, 4)[2]]
+[((0, 0, 0, 0), (2, 2, 2, 0)), ((0, 0, 0, 0), (0, 0, 0, 0)), ((2, 0, 0, 0), (0, 2, 0, 6))]
+>>> [bricks_in(words_of(pair, 6)) == bricks_of(pair), columns_of(Program(3, [("under", 0, 2), ("not", 1)])), bricks_in([[[3, 0, 0, 0], [2, 2, 2, 0]]])]
+[True, (0, 2, 4, 5, 6, 8, 10, 11, 12, 13), (('turn', 0, 3), ('mix', 1))]
+>>> [wall_of(pair, 4).turns[:4], wall_of(pair, 4).strings == shape(2, 4).strings]
+[((0, 0), (1, 2), (2, 0), (3, 2)), True]
+>>> words_of(pair, 3)
+raises TooMany('columns', 3)
+>>> bricks_in([[[0, 0, 0, 0], [0, 2, 0, 6]]])
+raises BadProgram('words')
 """),
 )

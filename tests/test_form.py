@@ -45,7 +45,12 @@ INTERFACE = {
              "fewest(net)"],
     "check_lots": ["shows_lots(net, value)", "shows_fewest(net, value)"],
     "waits": ["waits(net, paper, thing)", "is_let(net, paper, order)", "first_order(net, paper)", "most_live(net, order)"],
+    "runs": ["turn_now(net, paper, thing, falls)", "end_of(net, paper, spread, order, falls)"],
     "players": ["Player(net, paper, spread)"],
+    "made": ["net_of(program)", "lots_for(program)"],
+    "walls": ["shape(wires, columns)", "wall_lots(wires, columns)", "paired(wires, column)"],
+    "bricks": ["bricks_of(program)", "columns_of(program)", "words_of(program, columns)", "wall_of(program, columns)",
+               "bricks_in(words)"],
 }
 CLASS_METHODS = {
     ("players", "Player"): ["ready(self)", "asks(self, thing)", "look(self, thing, fall)", "end(self)"],
@@ -128,6 +133,7 @@ class FormTest(unittest.TestCase):
         for name, text in files().items():
             for word in BARRED:
                 self.assertIsNone(re.search(rf"\b{word}\b", text), f"{word} in {name}")
+            self.assertNotIn("_wall", text, name)
 
     def test_imports(self):
         held = trees()
