@@ -10,16 +10,21 @@ from lookmade.waits import follows, live_most, ruling, turn_by, waited_for
 from lookmade.wanted import want_spread
 
 
-def want_known(value, part, net):
-    """The dict of falls that pairs, or a dict, tell of looked things: BadFalls for no such."""
-    pairs = pairs_of(value)
-    if not is_list(pairs) or not all([is_list(pair) and len(pair) == 2 for pair in pairs]):
+def want_heard(value, part, net):
+    """Raises BadFalls for no list of pairs (thing, fall) of unlike looked things."""
+    if not is_list(value) or not all([is_list(pair) and len(pair) == 2 for pair in value]):
         raise BadFalls(part)
-    things = [pair[0] for pair in pairs]
-    if not are_things(things, net.things) or not all([is_bit(pair[1]) for pair in pairs]):
+    things = [pair[0] for pair in value]
+    if not are_things(things, net.things) or not all([is_bit(pair[1]) for pair in value]):
         raise BadFalls(part)
     if any([thing in net.kept for thing in things]):
         raise BadFalls(part)
+
+
+def want_known(value, part, net):
+    """The dict of falls that pairs, or a dict, tell of looked things: BadFalls for no such."""
+    pairs = pairs_of(value)
+    want_heard(pairs, part, net)
     return {thing: fall for thing, fall in pairs}
 
 

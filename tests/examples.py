@@ -195,4 +195,114 @@ raises TooMany('columns', 3)
 >>> bricks_in([[[0, 0, 0, 0], [0, 2, 0, 6]]])
 raises BadProgram('words')
 """),
+    ("lesser", r"""
+>>> short = Net(4, [(0, 1), (1, 2), (2, 3)], [0], [3], [(0, 1), (1, 2), (2, 4)])
+>>> less = Net(3, [(0, 1), (1, 2)], [0], [2], [(0, 7), (1, 2)])
+>>> [may_quarter(short, 1), may_quarter(short, 2), quarter(short, 1) == less, may_quarter(less, 1), lesser(short) == Lesser([("quarter", 1)], less), odd_in(short), odd_in(less)]
+[True, False, True, False, True, 1, 1]
+>>> long = Net(6, [(0, 1), (1, 2), (2, 3), (3, 4), (4, 5)], [0], [5], [(0, 1), (1, 0), (2, 4), (3, 3), (4, 1)])
+>>> [may_pair(long, 2, 1), may_pair(long, 1, 1), pair(long, 1, 2) == Net(4, [(0, 1), (1, 2), (2, 3)], [0], [3], [(0, 5), (1, 3), (2, 1)]), lesser(long).steps]
+[True, False, True, (('pair', 1, 2),)]
+>>> pair(Net(4, [(0, 1), (0, 2), (1, 2), (2, 3)], [], [3], [(0, 0), (1, 4), (2, 1)]), 0, 1) == Net(2, [(0, 1)], [], [1], [(0, 1)])
+True
+>>> quarter(Net(5, [(0, 1), (0, 2), (0, 3), (1, 2), (3, 4)], [1], [4], [(0, 6), (1, 1), (2, 3), (3, 0)]), 0) == Net(4, [(0, 2), (1, 2), (2, 3)], [0], [3], [(0, 3), (1, 5), (2, 2)])
+True
+>>> [may_quarter(Net(1, [], [], [], [(0, 2)]), 0), may_pair(Net(2, [(0, 1)], [], [], [(0, 0), (1, 4)]), 0, 1), may_quarter(Net(2, [], [], [], [(0, 2), (1, 1)]), 0)]
+[False, False, True]
+>>> quarter(short, 2)
+raises Misfit('thing')
+>>> may_pair(short, 1, 4)
+raises BadNumber('other')
+"""),
+    ("check_lesser", r"""
+>>> [shows_lesser(short, value) for value in (Lesser([["quarter", 1]], less), Lesser([], short), Lesser([("quarter", 1)], short), Lesser([("quarter", 2)], less), Lesser([("pair", 1, 2)], less))]
+[True, False, False, False, False]
+>>> [shows_lesser(less, Lesser([], less)), shows_lesser(less, None)]
+[True, False]
+"""),
+    ("houses", r"""
+>>> both = Net(4, [(0, 2), (1, 3)], [0, 1], [2, 3], [(0, 1), (1, 3)])
+>>> right, nought = Lots([[0, 1]], [(0, [2]), (1, [3])]), (0, 0, 0, 0)
+>>> [waves(both, right), rounds(both, right, 1), rounds(both, right, 2)]
+[((0, 1),), ((0,), (1,)), ((0, 1),)]
+>>> house = House(both, right, [(1, 0, 0, 0), nought, nought, nought], 2)
+>>> [house.give(0), house.give(1), house.give(hand=0), house.held, house.hears(1, 1), house.held, house.give(1)]
+[(0, 1), (1, 3), (0, 1), (0, 1), True, (0, None), None]
+>>> [house.lost(0), house.give(1), house.hears(thing=0, fall=0), house.hears(0, 0), house.done, house.order, house.known]
+[0, (0, 1), True, False, True, (1, 0), ((0, 0), (1, 1))]
+>>> late = House(both, right, [(1, 0, 0, 0), nought, nought, nought], 2)
+>>> [late.give(1), late.lost(1), late.give(0), late.hears(0, 1), late.held, late.give(1), late.hears(0, 1)]
+[(0, 1), 0, (0, 1), True, (None, None), (1, 3), False]
+>>> house.end()
+((1, 0, 0, 0), (1, 0, 0, 0), (1, 0, 0, 0), (1, 0, 0, 0))
+>>> house.hears(2, 0)
+raises NoName(2)
+>>> house.hears(0, 1)
+raises Twice(0)
+>>> chain = House(Net(3, [(0, 1), (1, 2)], [0], [2], [(0, 1), (1, 3)]), Lots([[0], [1]], [(0, [1]), (1, [2])]), [(1, 0, 0, 0), nought], 2)
+>>> [chain.give(0), chain.give(1), chain.hears(0, 1), chain.give(1)]
+[(0, 1), None, True, (1, 5)]
+>>> chain.end()
+raises Nothing
+"""),
+    ("askers", r"""
+>>> pair, paper = Net(2, [(0, 1)], [], [1], [(0, 1)]), Lots([[0]], [(0, [1])])
+>>> asker = Asker(pair, paper, [(3, 1), (5, 0)])
+>>> [asker.sent, asker.ready(), asker.asks(0), asker.asks(thing=1), asker.hears(0, 1), asker.ready(), asker.book]
+[(3, 5), (0, 1), 2, 3, None, (1,), ((0, 2, 1),)]
+>>> [asker.hears(1, 1), asker.bits(), asker.book[1]]
+[None, (1,), (1, 3, 1)]
+>>> asked = asked_net(Program(1, [("turn", 0, 1), ("mix", 0)]))
+>>> [asked.things, asked.strings, asked.given, asked.kept, asked.turns]
+[3, ((0, 1), (1, 2)), (), (2,), ((0, 1), (1, 0))]
+>>> asker.asks(0)
+raises Twice(0)
+>>> Asker(Net(1, [], [0], [0], []), Lots([], []), [(0, 0)])
+raises Misfit('given')
+"""),
+    ("strangers", r"""
+>>> stranger = Stranger(2, [(0, 1)], [3, 5])
+>>> [stranger.length, stranger.looks(0, 2, 1), stranger.left, stranger.length, stranger.looks(1, 3, 1), stranger.left, stranger.length]
+[(4, 0), None, (1,), (4, 0), None, (), (4, 0)]
+>>> lone = Stranger(1, [], [0])
+>>> lone.looks(0, 0, 1)
+raises Misfit('fall')
+"""),
+    ("ways", r"""
+>>> ways_to(pair, paper, (2, 3), (1, 1))
+(((3, 1), (1, 1)), ((3, 1), (5, 0)), ((7, 0), (1, 1)), ((7, 0), (5, 0)))
+>>> [len(ways_to(with_turns(pair, [(0, turn)]), paper, (2, 3), (1, 1))) for turn in (0, 1, 2)]
+[4, 4, 4]
+"""),
+    ("pictures", r"""
+>>> bell = Program(2, [("mix", 0), ("under", 0, 1)])
+>>> net, paper = net_of(bell), lots_for(bell)
+>>> picture(net, paper)
+('0 0.. > 2', '1 0.. > 3', '2 ..= - 0 3', '3 .0. - 1 2 4', '4 ..= - 3')
+>>> [course(net, paper, [(1, 0), (0, 1), (3, 1)]), course(net, paper, [])]
+[('1 turn 0 now 0 fall 0', '0 turn 0 now 0 fall 1', '3 turn 0 now 4 fall 1'), ()]
+>>> course(net, paper, [(0, 0), (3, 0)])
+raises Misfit('heard')
+"""),
+    ("desk", r"""
+>>> desk = Desk(2)
+>>> [desk.tell(line) for line in ("mix 0", "under 0 1", "net 0 0", "ready", "look 0 1", "look 1 1", "ask 3", "live", "look 3 0", "end")]
+['1', '2', '5 4 2', '0 1', '0', '0', '4', '2 3 : 3', '4', '0 1 0 / 3 1 0']
+>>> [desk.tell("undo"), desk.tell("course"), desk.tell("again"), desk.tell("program"), len(desk.log)]
+['look 3 0', '0 turn 0 now 0 fall 1 / 1 turn 0 now 0 fall 1', '4', 'mix 0 / under 0 1', 6]
+>>> desk.tell("mix 1")
+raises Misfit('net')
+>>> desk.tell("under 0 0")
+raises BadText(0, 2)
+>>> desk.tell("look 0 1")
+raises Twice(0)
+>>> desk.tell("again")
+raises Nothing
+"""),
+    ("scripts", r"""
+>>> played(1, ["mix 0", "turn 0 2", "mix 0", "mix 0", "net 0", "lesser", "picture", "log"])[4:]
+('4 3 3', '3 2 2', '0 6.. > 1 / 1 .6. - 0 2 / 2 ..= - 1', 'mix 0 / turn 0 2 / mix 0 / mix 0 / net 0 / lesser')
+>>> played(1, ["mix 0", "look 0 0"])
+raises BadLine
+"""),
 )

@@ -94,6 +94,8 @@ def bent(value, numbers):
     found = [None, True, "", 7.0, {}, Oddity()]
     if type(value) is int:
         return [*found, *numbers, float(value), str(value), -1, -value, (value,), bool(value)]
+    if isinstance(value, str):
+        return [*found, *numbers, value + " ", value[:-1], value.upper(), "quarter", "pair", "turn", (value,), (), 0]
     found += [(), (value,), (*value, *value), value[::-1], dict.fromkeys(range(len(value))), 0]
     for at, part in enumerate(value):
         found += [(*value[:at], other, *value[at + 1:]) for other in bent(part, numbers)]

@@ -19,7 +19,7 @@ def steps_of(text):
 
 
 def shown(error):
-    """An error as the document writes it."""
+    """An error as the document writes it with its fields."""
     fields = ", ".join(repr(field) for field in vars(error).values())
     return f"{type(error).__name__}({fields})" if fields else type(error).__name__
 
@@ -31,7 +31,8 @@ class ExamplesTest(unittest.TestCase):
         elif expected.startswith("raises "):
             with self.assertRaises(LookError) as caught:
                 eval(told, names)
-            self.assertEqual(shown(caught.exception), expected[7:])
+            told_fields = shown(caught.exception) if "(" in expected else type(caught.exception).__name__
+            self.assertEqual(told_fields, expected[7:])
         else:
             self.assertEqual(repr(eval(told, names)), expected)
 

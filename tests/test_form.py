@@ -51,9 +51,23 @@ INTERFACE = {
     "walls": ["shape(wires, columns)", "wall_lots(wires, columns)", "paired(wires, column)"],
     "bricks": ["bricks_of(program)", "columns_of(program)", "words_of(program, columns)", "wall_of(program, columns)",
                "bricks_in(words)"],
+    "lesser": ["may_quarter(net, thing)", "may_pair(net, one, other)", "quarter(net, thing)", "pair(net, one, other)",
+               "Lesser(steps, net)", "lesser(net)", "odd_in(net)"],
+    "check_lesser": ["shows_lesser(net, value)"],
+    "houses": ["waves(net, paper)", "rounds(net, paper, hands)", "House(net, paper, spread, hands)"],
+    "askers": ["asked_net(program)", "Asker(net, paper, secrets)"],
+    "strangers": ["Stranger(things, strings, sent)"],
+    "ways": ["ways_to(net, paper, told, falls)"],
+    "pictures": ["picture(net, paper)", "course(net, paper, heard)"],
+    "desk": ["Desk(wires)"],
+    "scripts": ["played(wires, lines)"],
 }
 CLASS_METHODS = {
     ("players", "Player"): ["ready(self)", "asks(self, thing)", "look(self, thing, fall)", "end(self)"],
+    ("houses", "House"): ["give(self, hand)", "hears(self, thing, fall)", "lost(self, hand)", "end(self)"],
+    ("askers", "Asker"): ["ready(self)", "asks(self, thing)", "hears(self, thing, fall)", "bits(self)"],
+    ("strangers", "Stranger"): ["looks(self, thing, turn, fall)"],
+    ("desk", "Desk"): ["tell(self, line)"],
 }
 # The methods of strings, lists and dicts that may be called.
 OFTEN = (
@@ -83,6 +97,7 @@ def imports(tree):
 def bound(function):
     """The names that a function binds: its parameters and its local variables."""
     stored = {node.id for node in ast.walk(function) if isinstance(node, ast.Name) and not isinstance(node.ctx, ast.Load)}
+    stored |= {node.name for node in ast.walk(function) if isinstance(node, ast.ExceptHandler)}
     return stored | {node.arg for node in ast.walk(function) if isinstance(node, ast.arg)}
 
 
@@ -159,7 +174,7 @@ class FormTest(unittest.TestCase):
 
     def test_statements_and_expressions(self):
         wrong = (
-            ast.GeneratorExp, ast.Div, ast.Try, ast.Global, ast.Lambda, ast.AsyncFunctionDef, ast.Yield, ast.AnnAssign,
+            ast.GeneratorExp, ast.Div, ast.Global, ast.Lambda, ast.AsyncFunctionDef, ast.Yield, ast.AnnAssign,
         )
         for name, tree in trees().items():
             for node in ast.walk(tree):
@@ -167,6 +182,10 @@ class FormTest(unittest.TestCase):
                 if isinstance(node, ast.Constant):
                     self.assertNotIsInstance(node.value, (float, complex))
                     self.assertFalse(isinstance(node.value, str) and "%" in node.value, name)
+                if isinstance(node, ast.Try):
+                    # Errors of the package alone are caught, by name.
+                    self.assertEqual(([ast.dump(one.type) for one in node.handlers], node.orelse, node.finalbody),
+                                     ([ast.dump(ast.parse("LookError", mode="eval").body)], [], []))
                 if isinstance(node, ast.Compare) and any(isinstance(op, (ast.Is, ast.IsNot)) for op in node.ops):
                     self.assertIsInstance(node.comparators[0], ast.Constant)
                 if isinstance(node, ast.BinOp) and isinstance(node.op, ast.Pow):

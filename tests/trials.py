@@ -4,6 +4,7 @@ from itertools import combinations, product
 
 from helpers import Steps, threaded_net
 from lookmade.lots import Lots, has_lots, lots_of
+from lookmade.nets import Net
 
 ZERO = (0, 0, 0, 0)
 
@@ -174,3 +175,65 @@ def drawn_papers(start, many, most=5):
         lots = some_lots(steps, net, layers)
         if lots is not None:
             yield net, Lots(layers, lots)
+
+
+def can_quarter(net, thing):
+    """Whether a thing can go by a quarter, by the document's words."""
+    return (thing not in net.given and thing not in net.kept and dict(net.turns)[thing] in (2, 6)
+            and not near(net, thing) & set(net.kept) and net.things > 1)
+
+
+def can_pair(net, one, other):
+    """Whether two things can go as a pair, by the document's words."""
+    return (other in near(net, one)
+            and all(thing not in net.given and thing not in net.kept and dict(net.turns)[thing] in (0, 4)
+                    and not near(net, thing) & set(net.kept) for thing in (one, other)) and net.things > 2)
+
+
+def behind(net, gone, toggled, grown):
+    """The net without what is gone, with strings toggled and turns grown, numbered anew."""
+    strings = {frozenset(string) for string in net.strings}
+    for string in toggled:
+        strings ^= {frozenset(string)}
+    turns = {thing: (turn + grown.get(thing, 0)) % 8 for thing, turn in net.turns if thing not in gone}
+    left = [thing for thing in range(net.things) if thing not in gone]
+    names = {thing: at for at, thing in enumerate(left)}
+    return Net(len(left), [tuple(names[thing] for thing in string) for string in strings if not string & set(gone)],
+               [names[thing] for thing in net.given], [names[thing] for thing in net.kept],
+               {names[thing]: turn for thing, turn in turns.items()})
+
+
+def behind_quarter(net, thing):
+    """The net behind a quarter, by the document's words."""
+    grown = {2: 6, 6: 2}[dict(net.turns)[thing]]
+    return behind(net, [thing], combinations(near(net, thing), 2), dict.fromkeys(near(net, thing), grown))
+
+
+def behind_pair(net, one, other):
+    """The net behind a pair, by the document's words."""
+    turns = dict(net.turns)
+    first, second = near(net, one) - {other}, near(net, other) - {one}
+    sorts = {thing: (thing in first, thing in second) for thing in first | second}
+    toggled = [(a, b) for a, b in combinations(sorted(sorts), 2) if sorts[a] != sorts[b]]
+    grown = {(True, False): turns[other], (False, True): turns[one], (True, True): turns[one] + turns[other] + 4}
+    return behind(net, [one, other], toggled, {thing: grown[sort] for thing, sort in sorts.items()})
+
+
+def all_steps(net):
+    """All steps that can be done, the quarters first, each kind ascending."""
+    quarters = [("quarter", thing) for thing in range(net.things) if can_quarter(net, thing)]
+    return quarters + [("pair", *two) for two in combinations(range(net.things), 2) if can_pair(net, *two)]
+
+
+def behind_step(net, step):
+    return behind_quarter(net, step[1]) if step[0] == "quarter" else behind_pair(net, *step[1:])
+
+
+def lessened(net, choose):
+    """The steps until nothing can go, and the net behind them; choose takes one of the steps that can be done."""
+    steps = []
+    while all_steps(net):
+        step = choose(all_steps(net))
+        net = behind_step(net, step)
+        steps.append(step)
+    return tuple(steps), net
