@@ -237,3 +237,40 @@ def lessened(net, choose):
         net = behind_step(net, step)
         steps.append(step)
     return tuple(steps), net
+
+
+def ungiven(start, many, most=5):
+    """Nets that look drawn, of which nothing is given, with right Lots."""
+    for net, paper in drawn_papers(start, many, most):
+        yield Net(net.things, net.strings, [], net.kept, net.turns), paper
+
+
+def read_behind(net, lots, thing):
+    """The pair of those that exchange a thing, none for a kept one, and those that sign it; lots are a dict."""
+    exchanging, signing = waited(net, lots, thing)
+    return ((), signing) if thing in net.kept else (exchanging, signing)
+
+
+def told_turn(net, lots, secrets, thing, truth):
+    """The turn that an asker tells for a thing, truth having the true falls of those that it waits for."""
+    exchanging, signing = read_behind(net, lots, thing)
+    turn, bit = secrets[thing]
+    now = dict(net.turns).get(thing, 0)
+    if sum(truth[other] for other in exchanging) % 2:
+        now = 8 - now
+    if sum(truth[other] for other in signing) % 2:
+        now += 4
+    return (now - turn + 4 * bit) % 8
+
+
+def asked_orders(net, lots):
+    """All orders of all things, kept ones too, in which an asker may hear them."""
+    before = [set(sum(read_behind(net, lots, thing), ())) for thing in range(net.things)]
+
+    def on(order):
+        if len(order) == net.things:
+            return [order]
+        ready = [thing for thing in range(net.things) if thing not in order and before[thing] <= set(order)]
+        return [found for thing in ready for found in on((*order, thing))]
+
+    return on(())
