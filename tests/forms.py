@@ -4,7 +4,7 @@ A line that may stand is a tuple of items; one that ends with DEAD tells that no
 """
 
 from functools import lru_cache
-from itertools import permutations
+from itertools import permutations, product
 
 DEAD = object()
 MANY = {"turn": 1, "mix": 1, "sign": 2, "not": 1, "under": 2, "swap": 2, "both": 3}
@@ -116,3 +116,18 @@ def bent_texts(text):
         bent += [rows[:at], rows[:at] + [row[:1]]]
     found = ["\n".join(" ".join(row) for row in told) for told in bent]
     return [*found, text + "\n", "\n" + text, text + " ", " " + text, text.replace("\n", "\r\n"), text.replace(" ", "  "), ""]
+
+
+@lru_cache(maxsize=None)
+def desk_lines(wires):
+    """All lines of a desk with so many wires."""
+    found = deed_lines(wires) + [("net", *bits) for bits in product("01", repeat=wires)]
+    found += [("look", str(thing), fall) for thing in range(120) for fall in "01"]
+    found += [("ask", str(thing)) for thing in range(120)]
+    alone = "lesser undo again log program ready live end picture course"
+    return found + [(word,) for word in alone.split(" ")]
+
+
+def bad_in_line(line, wires):
+    """Which item of a line of a desk cannot stand, None if all can."""
+    return first_bad(line.split(" "), desk_lines(wires))
