@@ -74,9 +74,9 @@ class Tangle:
 
     def lose_pair(self, one, other):
         """Lets two things go as a pair."""
-        all_others = ~(1 << one | 1 << other)
-        first = self.near[one] & all_others
-        second = self.near[other] & all_others
+        # Each of the two is among the neighbours of the other one: what becomes of it goes with it.
+        first = self.near[one]
+        second = self.near[other]
         both = first & second
         turns = (self.turns[one], self.turns[other])
         for sort, turn in ((first & ~both, turns[1]), (second & ~both, turns[0]), (both, sum(turns) + 4)):

@@ -2,7 +2,7 @@
 
 import unittest
 
-from helpers import Oddity, Steps, as_lists, bent, drawn_net, odd_values, raised
+from helpers import Alike, Oddity, Steps, as_lists, bent, drawn_net, odd_values, raised
 from lookmade.check_lesser import shows_lesser
 from lookmade.lesser import Lesser, lesser
 from lookmade.lots import Fewest, Lots, Stuck, lots_of
@@ -68,7 +68,8 @@ class StepsTest(unittest.TestCase):
         for step in (("pair", 2, 1), ("pair", 1, 1), ("pair", 1), ("pair", 1, 2, 3), ("pair",), (), ("pair", True, 2),
                      ("pair", 1.0, 2), ("pair", "1", "2"), ("Pair", 1, 2), ("quarter", 1), ("quarter", 1, 2), (1, 2), "pair",
                      ("pair", (1, 2)), (("pair", 1, 2),), None, 1, {0: "pair"}, ("pair", 1, 120), ("pair", -1, 2), (None, 1, 2),
-                     (("pair",), 1, 2), ("pair", 0, 1), (True, 1, 2), ("pair", 1, 2, None), (Oddity(), 1, 2), ({}, 1, 2)):
+                     (("pair",), 1, 2), ("pair", 0, 1), (True, 1, 2), ("pair", 1, 2, None), (Oddity(), 1, 2), ({}, 1, 2),
+                     (Alike(), 1, 2), ("pair", Alike(), 2), Alike()):
             self.assertIs(shows_lesser(long, Lesser([step], left)), False, step)
         for step in (("quarter", True), ("quarter", 1.0), ("quarter",), ("quarter", 1, 2), ("quarter", None), ("quarter", (1,)),
                      ("pair", 1), ("quarter", -3), ("quarter", 4)):
@@ -89,7 +90,7 @@ class StepsTest(unittest.TestCase):
     def test_other_nets(self):
         for net in (with_turns(LESS, {0: 7, 1: 6}), Net(3, [(0, 1)], [0], [2], [(0, 7), (1, 2)]),
                     Net(3, [(0, 1), (1, 2)], [], [2], [(0, 7), (1, 2)]), Net(4, [(0, 1), (1, 2)], [0], [2], {0: 7, 1: 2, 3: 0}),
-                    SHORT, None, str(LESS), (LESS,), [LESS], LESS.turns, Lesser([], LESS), 0):
+                    SHORT, None, Alike(), str(LESS), (LESS,), [LESS], LESS.turns, Lesser([], LESS), 0):
             self.assertIs(shows_lesser(SHORT, Lesser([("quarter", 1)], net)), False)
         two = Net(4, [(0, 1)], [2, 3], [3, 2], [(0, 2), (1, 1)])
         paper = lesser(two)

@@ -3,7 +3,13 @@
 import unittest
 
 from helpers import Oddity, odd_values
+from lookmade.lesser import Lesser
+from lookmade.lots import Fewest, Lots, Stuck
 from lookmade.papers import Denial, Paper, fixed
+
+# Each class of papers of the package, with its word and the names of its parts.
+KINDS = ((Lots, "lots", ("layers", "lots")), (Stuck, "stuck", ("left", "shows")), (Fewest, "fewest", ("layers", "shows")),
+         (Lesser, "lesser", ("steps", "net")))
 
 
 class Note(Paper):
@@ -83,6 +89,22 @@ class PapersTest(unittest.TestCase):
             other = type(made.__name__, (), {"word": "x", "parts": (1,)})()
             self.assertIs(made("x", 1) == other, False)
             self.assertIs(made("x", 1) != other, True)
+
+    def test_each_class_of_the_package(self):
+        values = [*odd_values(), [[1], (2, [3])], {"a": [1]}, 5, Paper("x")]
+        for made, word, names in KINDS:
+            self.assertEqual(made.__bases__, (Denial if made is Stuck else Paper,))
+            for one, other in zip(values, values[1:] + values[:1]):
+                parts = (fixed(one), fixed(other))
+                for paper in (made(one, other), made(**dict(zip(names, (one, other)))), made(one, **{names[1]: other})):
+                    self.assertEqual((paper.word, paper.parts), (word, parts))
+                    self.assertEqual(tuple(getattr(paper, name) for name in names), parts)
+                    self.assertIs(bool(paper), made is not Stuck)
+                    self.assertTrue(paper == made(*parts))
+                    self.assertFalse(paper == made(one, [other]))
+                    self.assertFalse(paper == (Denial if made is Stuck else Paper)(word, one, other))
+                for others, _, _ in KINDS:
+                    self.assertIs(made(one, other) == others(one, other), made is others)
 
     def test_what_was_passed_may_be_changed(self):
         inner = [2]
